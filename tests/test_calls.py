@@ -1,0 +1,127 @@
+"""Calls as such: what is handed in, what is kept, and inputs as large as the bounds let them be."""
+
+import unittest
+
+from tests.helper import TREES, apply, check, normal, to_bytes
+from tests.test_requirements import PROGRAMS
+from treefiltersdesk import filters
+
+
+class Untouchable(list):
+    """A list that can't be changed."""
+
+    def refuse(self, *arguments, **names):
+        raise AssertionError("what is handed in was changed")
+
+    append = clear = extend = insert = pop = remove = reverse = sort = refuse
+    __setitem__ = __delitem__ = __iadd__ = __imul__ = refuse
+
+
+FAILING = ["(", "(x)", "(blocks (any) (replace (x)))", "(blocks (any) (replace (self) (quote (x))))", "(repeat 0)",
+           "(repeat 50 (repeat 50 (inlines (any) (after \"a\"))))"]
+
+
+class HandedIn(unittest.TestCase):
+    def test_lists_are_as_they_were(self):
+        for program in PROGRAMS + FAILING:
+            for tree in TREES + ["(", "(x)"]:
+                one = Untouchable(to_bytes(program))
+                other = Untouchable(to_bytes(tree))
+                filters.check(one)
+                filters.apply(one, other)
+                self.assertEqual(list(one), to_bytes(program))
+                self.assertEqual(list(other), to_bytes(tree))
+
+    def test_answers_are_lists_of_their_own(self):
+        answer = filters.apply([], to_bytes("(rule)"))
+        answer.append(1)
+        self.assertEqual(filters.apply([], to_bytes("(rule)")), [6] + to_bytes("(rule)"))
+        answer = filters.check([])
+        answer.clear()
+        self.assertEqual(filters.check([]), [0, 0])
+
+    def test_the_same_list_twice(self):
+        data = to_bytes("; both\n")
+        self.assertEqual(filters.apply(data, data), [0])
+
+
+class Kept(unittest.TestCase):
+    def test_the_same_answers_whatever_was_called_before(self):
+        calls = [(program, tree) for program in PROGRAMS + FAILING for tree in TREES]
+        first = [apply(program, tree) for program, tree in calls]
+        checked = [check(program) for program in PROGRAMS + FAILING]
+        again = [apply(program, tree) for program, tree in reversed(calls)]
+        self.assertEqual(first, list(reversed(again)))
+        self.assertEqual(checked, [check(program) for program in PROGRAMS + FAILING])
+        self.assertEqual(first[::7], [apply(program, tree) for program, tree in calls[::7]])
+
+
+class Extremes(unittest.TestCase):
+    """Inputs of 600 bytes."""
+
+    def test_long_texts(self):
+        tree = '(para "' + "a" * 591 + '")'
+        self.assertEqual(len(tree), 600)
+        self.assertEqual(normal(tree), tree)
+        self.assertEqual(apply('(inlines (any) (replace-text "' + "a" * 560 + '" ""))', tree), '(para "' + "a" * 31 + '")')
+        self.assertEqual(check('(blocks (text "' + "a" * 583 + '"))'), [0, 1])
+        self.assertEqual(check('"' + "a" * 599), [1, 600])
+        self.assertEqual(check(";" * 600), [0, 0])
+        self.assertEqual(check(" " * 600), [0, 0])
+        self.assertEqual(check("a" * 600), [7, 0])
+        self.assertEqual(check(b"\xff" * 600), [2, 0])
+        self.assertEqual(check("(" * 600), [6, 16])
+        self.assertEqual(normal(" " * 593 + "(rule) "), "(rule)")
+
+    def test_deep_programs(self):
+        for head in ["(repeat 2 ", "(when (any) "]:
+            program = head * 15 + "(blocks)" + ")" * 15
+            self.assertEqual(check(program), [8, 15 * len(head)])
+        for head in ["(repeat 1 ", "(when (any) "]:
+            program = head * 13 + "(blocks (not (any)))" + ")" * 13
+            self.assertEqual(apply(program, "(rule)"), "(rule)")
+        self.assertEqual(apply("(blocks " + "(not " * 14 + "(any)" + ")" * 14 + " (remove))", "(rule)"), "")
+        self.assertEqual(apply("(blocks " + "(not " * 13 + "(any)" + ")" * 13 + " (remove))", "(rule)"), "(rule)")
+        self.assertEqual(apply("(blocks (any) (replace " + "(quote " * 13 + "(self)" + ")" * 15, "(rule)"),
+                         "(quote " * 13 + "(rule)" + ")" * 13)
+
+    def test_wide_programs(self):
+        self.assertEqual(check("(repeat 1)" * 60), [0, 60])
+        self.assertEqual(check("(blocks(or))" * 50), [0, 50])
+        self.assertEqual(apply("(blocks(or))" * 50, "(rule)"), "(rule)")
+        self.assertEqual(apply("(blocks (or" + "(or)" * 140 + "(any)) (remove))", "(rule)"), "")
+        self.assertEqual(apply("(blocks (and" + "(and)" * 110 + ") (remove))", "(rule)"), "")
+        self.assertEqual(apply("(blocks (any)" + "(lower)" * 83 + ")", '(heading 1 "")'), '(heading 6 "")')
+        self.assertEqual(apply("(blocks (any) (before" + "(rule)" * 95 + "))", "(rule)"), "\n".join(["(rule)"] * 96))
+
+    def test_deep_trees(self):
+        for head, tail, most in [("(quote ", ")", 15), ('(note "n" ', ")", 15), ('(group (class "a") ', ")", 15),
+                                 ("(bullets (item ", "))", 7), ("(numbers 1 (item ", "))", 7), ("(terms (term () ", "))", 7)]:
+            tree = head * most + "(rule)" + tail * most
+            self.assertEqual(normal(tree), tree)
+            self.assertEqual(apply("(blocks (kind rule) (replace (note \"m\")))", tree), head * most + '(note "m")' + tail * most)
+            self.assertEqual(apply("(blocks (any) (replace (self)))", tree), tree)
+            self.assertEqual(apply("(blocks (any) (unwrap))", tree),
+                             "(rule)" if head.startswith(("(q", "(no", "(g", "(b", "(nu")) else tree)
+        tree = "(para " + "(emph (strong (strike (sub (super (caps (link \"u\" " + '(span (class "x") ' * 7 + '"a"' + ")" * 15
+        self.assertEqual(normal(tree), tree)
+        self.assertEqual(apply("(inlines (any) (unwrap))", tree), '(para "a")')
+
+    def test_wide_trees(self):
+        self.assertEqual(normal("(rule)" * 100), "\n".join(["(rule)"] * 100))
+        self.assertEqual(normal("(quote(rule))" * 46), "(quote" + " (rule)" * 46 + ")")
+        self.assertEqual(normal("(bullets(item))" * 40), "(bullets" + " (item)" * 40 + ")")
+        self.assertEqual(normal("(para)" * 100), "")
+        self.assertEqual(normal("(para" + '"a"' * 198 + ")"), '(para "' + "a" * 198 + '")')
+        self.assertEqual(normal("(para" + '(sub"a")' * 74 + ")"), '(para (sub "' + "a" * 74 + '"))')
+        self.assertEqual(normal('(para"a"' + "(break)" * 83 + '"b")'), '(para "a"' + " (break)" * 83 + ' "b")')
+        self.assertEqual(normal('(table""(caption)(align none' + " none" * 50 + ")(row" + "(cell)" * 51 + "))").count("(cell)"), 51)
+        self.assertEqual(normal('(terms' + "(term())" * 74 + ")"), "(terms" + " (term ())" * 74 + ")")
+        self.assertEqual(apply('(blocks (kind rule) (replace (note "n")))', "(quote" + "(rule)" * 98 + ")"),
+                         "(quote" + ' (note "n")' * 98 + ")")
+
+    def test_many_selected_items_and_steps(self):
+        program = '(repeat 50 (blocks (last) (replace (para "a") (para "a"))) (blocks (last) (remove)) (repeat 2 (inlines (any) (upper-case))))'
+        self.assertEqual(apply(program, "(rule)" * 100), "\n".join(["(rule)"] * 99 + ['(para "A")']))
+        program = "(repeat 50 (blocks (descendant (descendant (kind rule))) (after (rule))) (blocks (kind rule) (remove)))"
+        self.assertEqual(apply(program, '(note "n" ' * 15 + "(rule)" + ")" * 15), '(note "n" ' * 14 + '(note "n")' + ")" * 14)

@@ -1,0 +1,34 @@
+"""The rows of the document's examples for check and apply."""
+
+import unittest
+
+from tests.helper import apply, check, to_bytes
+from treefiltersdesk import filters
+
+
+class Examples(unittest.TestCase):
+    def test_check_finds_a_wrong_number_of_executions(self):
+        self.assertEqual(check("(blocks (kind rule) (remove)) (repeat 0)"), [9, 38])
+
+    def test_check_finds_what_is_no_step(self):
+        self.assertEqual(check("(x)"), [7, 0])
+
+    def test_apply_removes_rules(self):
+        self.assertEqual(apply("(blocks (kind rule) (remove))", '(rule) (para "a") (quote (rule))'), '(para "a")')
+
+    def test_apply_replaces_a_style(self):
+        self.assertEqual(
+            apply("(inlines (kind emph) (replace (strong (content))))", '(para (emph "a"))'), '(para (strong "a"))')
+
+    def test_apply_lowers_a_heading_and_adds_a_rule(self):
+        self.assertEqual(
+            apply("(blocks (level 1 6) (lower) (after (rule)))", '(heading 1 "" "A")'), '(heading 2 "" "A")\n(rule)')
+
+    def test_apply_refuses_a_template(self):
+        self.assertEqual(apply("(blocks (any) (replace (item (self))))", "(rule)"), -33)
+
+    def test_answers_as_lists(self):
+        self.assertEqual(filters.check(to_bytes("(when (any))(when (any))")), [0, 2])
+        self.assertEqual(filters.apply([], to_bytes("( rule )")), [6] + to_bytes("(rule)"))
+        self.assertEqual(filters.apply([], []), [0])
+        self.assertEqual(filters.apply([40], []), [-21])
