@@ -247,6 +247,11 @@ class Attributes(Actions):
         self.assert_blocks_stay('(add-class "z")', without(BLOCKS, "group"))
         self.assert_inlines_stay('(add-class "z")', without(INLINES, "span"))
 
+    def test_names_of_the_notation_are_no_classes(self):
+        self.assert_block('(add-class "class")', '(group (class "a") (rule))', '(group (class "a" "class") (rule))')
+        self.assert_inline('(add-class "class")', '(span (class "a") "b")', '(span (class "a" "class") "b")')
+        self.assert_block('(remove-class "class")', '(group (class "class" "a") (rule))', '(group (class "a") (rule))')
+
     def test_remove_class(self):
         self.assert_block('(remove-class "x")', '(group (class "x" "a" "x" "b" "x") (rule))', '(group (class "a" "b") (rule))')
         self.assert_block('(remove-class "x")', '(group (class "a" "xx") (rule))', '(group (class "a" "xx") (rule))')

@@ -76,7 +76,8 @@ class Strings(unittest.TestCase):
                 self.assertEqual(self.written("a\\u{%06x}b" % code), "a\\u{%x}b" % code)
 
     def test_all_other_characters(self):
-        for code in list(range(32, 300)) + [0x7ff, 0x800, 0xd7ff, 0xe000, 0xfffd, 0xffff, 0x10000, 0x10ffff]:
+        for code in list(range(32, 300)) + [0x7ff, 0x800, 0xd7ff, 0xe000, 0xfffd, 0xffff, 0x10000, 0x3ffff, 0x40000, 0x40fff, 0x41000,
+                                             0x7ffff, 0x80000, 0xbffff, 0xc0000, 0xfffff, 0x100000, 0x10ffff]:
             if chr(code) not in '"\\':
                 self.assertEqual(self.written("a" + chr(code) + "b"), "a" + chr(code) + "b")
                 self.assertEqual(self.written("a\\u{%x}b" % code), "a" + chr(code) + "b")

@@ -111,6 +111,10 @@ class DepthAfterAStep(unittest.TestCase):
         self.assertEqual(apply('(blocks (label "x") (after (terms (term ()))))', tree), -28)
         self.assertEqual(apply('(blocks (label "x") (after (group (class "x") (rule))))', tree), notes(14, '(note "x") (group (class "x") (rule))'))
 
+    def test_lists_without_parts(self):
+        self.assertEqual(apply('(blocks (label "x") (replace (terms (term ()))))', notes(13, '(note "x")')), notes(13, "(terms (term ()))"))
+        self.assertEqual(apply('(blocks (label "x") (replace (terms (term ()))))', notes(14, '(note "x")')), -28)
+
     def test_inline_elements(self):
         tree = notes(14, '(para "a")')
         self.assertEqual(apply('(inlines (any) (replace (emph (self))))', tree), notes(14, '(para (emph "a"))'))

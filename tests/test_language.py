@@ -174,7 +174,10 @@ class Code(unittest.TestCase):
     def test_functions_and_classes(self):
         for name, tree in TREES.items():
             for node in functions_of(tree):
-                self.assertEqual(node.decorator_list + node.args.defaults + node.args.kwonlyargs + node.args.posonlyargs, [])
+                self.assertEqual(node.decorator_list + node.args.kwonlyargs + node.args.posonlyargs, [])
+                for value in node.args.defaults:
+                    self.assertIsInstance(value, ast.Constant)
+                    self.assertNotIn(node.name, INTERFACE)
                 self.assertIsNone(node.args.vararg or node.args.kwarg or node.returns)
                 for part in node.args.args:
                     self.assertIsNone(part.annotation)

@@ -121,6 +121,11 @@ class Attributes(Selectors):
         self.assert_inlines('(label "x")', '(para "x" (code "x") (link "x" "x") (span (class "x") (math "x")))')
         self.assert_inlines('(label "x")', '(heading 1 "x" "a")')
 
+    def test_names_of_the_notation_are_no_labels(self):
+        self.assert_inlines('(label "cite")', '(para (cite "x") *(cite "cite") (ref "x"))')
+        self.assert_inlines('(class "class")', '(para (span (class "x") "a") *(span (class "class") "b"))')
+        self.assert_blocks('(class "class")', '(group (class "x") (rule))\n*(group (class "class") (rule))')
+
     def test_class(self):
         self.assert_blocks('(class "x")', '*(group (class "x") (rule))\n(group (class "y") *(group (class "y" "x") (rule)))')
         self.assert_blocks('(class "x")', '(note "x")\n(heading 1 "x")\n(group (class "xx" "X") (rule))')

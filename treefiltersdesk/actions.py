@@ -65,7 +65,7 @@ def filled(parts, current, contents):
         elif part.head == "content" and len(part.parts) == 1:
             result.extend(contents)
         elif part.shape == "list":
-            result.append(make_list(filled(part.parts, current, contents), part.place))
+            result.append(make_list(filled(part.parts, current, contents)))
         else:
             result.append(part)
     return result
@@ -84,7 +84,7 @@ def unwrapped(current):
 
 def with_level(item, level):
     """A heading with another level."""
-    return with_part(item, 1, make_integer(level, item.place))
+    return with_part(item, 1, make_integer(level))
 
 
 def with_set_level(item, arguments):
@@ -116,7 +116,7 @@ def with_class(item, arguments):
     classes = item.parts[1].parts
     if arguments[0].text in [label.text for label in classes[1:]]:
         return item
-    return with_part(item, 1, make_list(list(classes) + [arguments[0]], item.place))
+    return with_part(item, 1, make_list(list(classes) + [arguments[0]]))
 
 
 def without_class(item, arguments):
@@ -125,7 +125,7 @@ def without_class(item, arguments):
         return item
     classes = item.parts[1].parts
     kept = [label for label in classes[1:] if label.text != arguments[0].text]
-    return with_part(item, 1, make_list([classes[0]] + kept, item.place))
+    return with_part(item, 1, make_list([classes[0]] + kept))
 
 
 def with_set_target(item, arguments):
@@ -153,7 +153,7 @@ def with_lower_case(item, arguments):
 def with_texts(item, change):
     """The item with each of its text elements changed, at any depth."""
     if item.shape == "string":
-        return make_string(change(item.text), item.place)
+        return make_string(change(item.text))
     return with_lists(item, lambda siblings, form: [with_texts(inner, change) for inner in siblings])
 
 

@@ -53,7 +53,11 @@ RULES = {
 
 
 class Expression:
-    """A list, a string, an integer or a symbol, as its shape tells."""
+    """A list, a string, an integer or a symbol, as its shape tells.
+
+    Its place is where it stands in the text that it was read from; one that was made otherwise
+    has none. A block remembers its normal form once it is known.
+    """
 
     def __init__(self, shape, place):
         self.shape = shape
@@ -64,9 +68,10 @@ class Expression:
         self.head = ""
         self.depth = 0
         self.role = ""
+        self.normal = None
 
 
-def make_string(text, place):
+def make_string(text, place=0):
     """A string; as a part of a list of items it is a text."""
     expression = Expression("string", place)
     expression.text = text
@@ -74,21 +79,21 @@ def make_string(text, place):
     return expression
 
 
-def make_integer(number, place):
+def make_integer(number, place=0):
     """An integer."""
     expression = Expression("integer", place)
     expression.number = number
     return expression
 
 
-def make_symbol(name, place):
+def make_symbol(name, place=0):
     """A symbol."""
     expression = Expression("symbol", place)
     expression.text = name
     return expression
 
 
-def make_list(parts, place):
+def make_list(parts, place=0):
     """A list, with its depth and its role in a document."""
     expression = Expression("list", place)
     expression.parts = tuple(parts)

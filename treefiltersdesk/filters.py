@@ -4,6 +4,7 @@ from treefiltersdesk.errors import BadTemplate, Fault, NotDocument, TooLarge
 from treefiltersdesk.programs import read_program
 from treefiltersdesk.reading import read_document
 from treefiltersdesk.running import Execution
+from treefiltersdesk.texts import bytes_of
 
 
 def check(program):
@@ -30,4 +31,5 @@ def apply(program, tree):
         return [-28]
     except BadTemplate:
         return [-33]
-    return [len(execution.notation)] + execution.notation
+    notation = bytes_of(execution.notation)
+    return [len(notation)] + notation

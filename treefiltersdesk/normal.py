@@ -1,8 +1,8 @@
 """The normal form of documents."""
 
 from treefiltersdesk.expressions import make_list, make_string, make_symbol
-from treefiltersdesk.trees import with_lists
 from treefiltersdesk.texts import words_between_spaces
+from treefiltersdesk.trees import with_lists
 
 STYLES = ("emph", "strong", "strike", "super", "sub", "caps")
 
@@ -10,7 +10,8 @@ STYLES = ("emph", "strong", "strike", "super", "sub", "caps")
 class Run:
     """A piece of a list of inline elements, and the wrappers around it, the outermost first.
 
-    A wrapper is a tuple: its symbol, and then its target or its classes.
+    Its gap is "space" or "break" if it belongs to a gap, and empty otherwise. A wrapper is a
+    tuple: its symbol, and then its target or its classes.
     """
 
     def __init__(self, gap, item, wrappers):
@@ -56,10 +57,10 @@ def runs_of_text(text, wrappers):
     """
     pieces = words_between_spaces(text)
     words = [piece for piece in pieces if piece != ""]
-    space = Run("space", make_string(" ", 0), wrappers)
+    space = Run("space", make_string(" "), wrappers)
     if not words:
         return [space] if len(pieces) > 1 else []
-    runs = [Run("", make_string(" ".join(words), 0), wrappers)]
+    runs = [Run("", make_string(" ".join(words)), wrappers)]
     if pieces[0] == "":
         runs.insert(0, space)
     if pieces[-1] == "":
@@ -106,7 +107,7 @@ def with_gaps_replaced(runs):
 def replaced_gap(gap, wrappers):
     """What stands instead of a gap."""
     breaks = [Run("break", run.item, wrappers) for run in gap if run.gap == "break"]
-    return breaks if breaks else [Run("space", make_string(" ", 0), wrappers)]
+    return breaks if breaks else [Run("space", make_string(" "), wrappers)]
 
 
 def common_beginning(before, after):
@@ -129,7 +130,7 @@ def built(runs, level):
         if len(run.wrappers) > level:
             result.append(wrapped(run.wrappers[level], built(runs[at:end], level + 1)))
         elif run.item.shape == "string":
-            result.append(make_string("".join([piece.item.text for piece in runs[at:end]]), 0))
+            result.append(make_string("".join([piece.item.text for piece in runs[at:end]])))
         else:
             result.append(run.item)
         at = end
@@ -147,13 +148,13 @@ def belong_together(one, other, level):
 
 def wrapped(wrapper, children):
     """The element of a wrapper around its children."""
-    parts = [make_symbol(wrapper[0], 0)]
+    parts = [make_symbol(wrapper[0])]
     if wrapper[0] == "link":
-        parts.append(make_string(wrapper[1], 0))
+        parts.append(make_string(wrapper[1]))
     if wrapper[0] == "span":
-        labels = [make_string(label, 0) for label in wrapper[1:]]
-        parts.append(make_list([make_symbol("class", 0)] + labels, 0))
-    return make_list(parts + children, 0)
+        labels = [make_string(label) for label in wrapper[1:]]
+        parts.append(make_list([make_symbol("class")] + labels))
+    return make_list(parts + children)
 
 
 def normal_blocks(blocks):
@@ -166,7 +167,14 @@ def normal_blocks(blocks):
 
 def normal_block(block):
     """What the normal form has for a block, ahead of the joining of neighbours."""
-    changed = with_lists(block, normal_list)
+    # A template can put one block into very many places, so it is brought into normal form once.
+    if block.normal is None:
+        block.normal = kept_of_block(with_lists(block, normal_list))
+    return block.normal
+
+
+def kept_of_block(changed):
+    """What stands for a block whose lists are in normal form."""
     if changed.head in ("para", "quote") and len(changed.parts) == 1:
         return []
     if changed.head == "group" and len(changed.parts[1].parts) == 1:
@@ -205,4 +213,4 @@ def joined(blocks):
     if blocks[0].head == "quote":
         # The blocks of each quote are joined already, so this joins just where they meet.
         inner = joined_blocks(inner)
-    return make_list(list(blocks[0].parts[:firsts]) + inner, 0)
+    return make_list(list(blocks[0].parts[:firsts]) + inner)

@@ -5,6 +5,7 @@ from treefiltersdesk.errors import TooLarge
 from treefiltersdesk.expressions import DEEPEST
 from treefiltersdesk.normal import normal_blocks
 from treefiltersdesk.selecting import holding, places_of
+from treefiltersdesk.texts import length_of
 from treefiltersdesk.trees import with_lists
 from treefiltersdesk.writing import notation_of
 
@@ -52,7 +53,7 @@ class Execution:
         self.blocks = normal_blocks(Change(chosen, step.parts[2:]).changed_list(self.blocks))
         self.notation = notation_of(self.blocks)
         deepest = max([block.depth for block in self.blocks], default=0)
-        if len(self.notation) > LONGEST_NOTATION or deepest > DEEPEST:
+        if length_of(self.notation) > LONGEST_NOTATION or deepest > DEEPEST:
             raise TooLarge()
 
 

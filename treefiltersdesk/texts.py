@@ -47,6 +47,11 @@ def bytes_of(text):
     return data
 
 
+def length_of(text):
+    """How many bytes the UTF-8 of a text has."""
+    return len(text) - 4 * text.count(MARK)
+
+
 def bytes_of_code_point(code):
     """The bytes of the UTF-8 of a code point."""
     if code < 128:

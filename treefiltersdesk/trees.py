@@ -44,14 +44,14 @@ def with_lists(expression, change):
         parts.extend(change(expression.parts[firsts:], rule[2]))
     else:
         parts.extend([with_lists(part, change) for part in expression.parts[firsts:]])
-    return make_list(parts, expression.place)
+    return make_list(parts)
 
 
 def with_part(item, number, part):
     """An item with another expression as one of its parts."""
     parts = list(item.parts)
     parts[number] = part
-    return make_list(parts, item.place)
+    return make_list(parts)
 
 
 def plain_text(item):
