@@ -2,6 +2,7 @@
 
 from treefiltersdesk.errors import BadTemplate, TooLarge
 from treefiltersdesk.expressions import DEEPEST, make_integer, make_list, make_string
+from treefiltersdesk.longtexts import in_lower_case, in_upper_case, replaced
 from treefiltersdesk.trees import LABEL_PARTS, TARGET_PARTS, children_of, with_lists, with_part
 
 UNWRAPPED = ("quote", "group", "note", "emph", "strong", "strike", "super", "sub", "caps", "link", "image",
@@ -32,6 +33,9 @@ def changed_items(current, action):
         return []
     if action.head == "unwrap":
         return unwrapped(current)
+    if action.head in TEXT_CHANGES:
+        texts = TextChange(action)
+        return [texts.changed_in(item) for item in current]
     return [CHANGES[action.head](item, action.parts[1:]) for item in current]
 
 
@@ -135,26 +139,44 @@ def with_set_target(item, arguments):
     return with_part(item, TARGET_PARTS[item.head], arguments[0])
 
 
-def with_replaced_text(item, arguments):
-    """The item with a text replaced by another one in its text elements."""
-    return with_texts(item, lambda text: text.replace(arguments[0].text, arguments[1].text))
+class TextChange:
+    """An action on text elements. An item that stands in many places, or a text, is changed once."""
+
+    def __init__(self, action):
+        self.action = action
+        self.known_items = {}
+        self.known_texts = {}
+
+    def changed_in(self, item):
+        """The item with each of its text elements changed, at any depth."""
+        if item not in self.known_items:
+            if item.shape == "string":
+                self.known_items[item] = make_string(self.changed_text(item.text))
+            else:
+                self.known_items[item] = with_lists(
+                    item, lambda siblings, form: [self.changed_in(inner) for inner in siblings])
+        return self.known_items[item]
+
+    def changed_text(self, text):
+        """A text after the action."""
+        if text not in self.known_texts:
+            self.known_texts[text] = TEXT_CHANGES[self.action.head](text, self.action.parts[1:])
+        return self.known_texts[text]
 
 
-def with_upper_case(item, arguments):
-    """The item with the letters of its text elements in upper case."""
-    return with_texts(item, lambda text: text.upper())
+def replaced_text(text, arguments):
+    """A text with a text in it replaced by another one."""
+    return replaced(text, arguments[0].text, arguments[1].text)
 
 
-def with_lower_case(item, arguments):
-    """The item with the letters of its text elements in lower case."""
-    return with_texts(item, lambda text: text.lower())
+def upper_case_text(text, arguments):
+    """A text with its letters in upper case."""
+    return in_upper_case(text)
 
 
-def with_texts(item, change):
-    """The item with each of its text elements changed, at any depth."""
-    if item.shape == "string":
-        return make_string(change(item.text))
-    return with_lists(item, lambda siblings, form: [with_texts(inner, change) for inner in siblings])
+def lower_case_text(text, arguments):
+    """A text with its letters in lower case."""
+    return in_lower_case(text)
 
 
 CHANGES = {
@@ -165,7 +187,9 @@ CHANGES = {
     "add-class": with_class,
     "remove-class": without_class,
     "set-target": with_set_target,
-    "replace-text": with_replaced_text,
-    "upper-case": with_upper_case,
-    "lower-case": with_lower_case,
+}
+TEXT_CHANGES = {
+    "replace-text": replaced_text,
+    "upper-case": upper_case_text,
+    "lower-case": lower_case_text,
 }

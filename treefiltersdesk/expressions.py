@@ -56,7 +56,8 @@ class Expression:
     """A list, a string, an integer or a symbol, as its shape tells.
 
     Its place is where it stands in the text that it was read from; one that was made otherwise
-    has none. A block remembers its normal form once it is known.
+    has none. A block remembers its normal form, and an expression of a document the size of its
+    canonical notation, once it is known.
     """
 
     def __init__(self, shape, place):
@@ -69,6 +70,7 @@ class Expression:
         self.depth = 0
         self.role = ""
         self.normal = None
+        self.size = None
 
 
 def make_string(text, place=0):

@@ -1,6 +1,8 @@
 """The normal form of documents."""
 
+from treefiltersdesk.errors import TooLarge
 from treefiltersdesk.expressions import make_list, make_string, make_symbol
+from treefiltersdesk.longtexts import LONGEST_PLAIN, with_short_gaps
 from treefiltersdesk.texts import words_between_spaces
 from treefiltersdesk.trees import with_lists
 
@@ -28,8 +30,11 @@ def normal_list(siblings, form):
 
 
 def normal_inlines(inlines):
-    """The normal form of a list of inline elements."""
-    return built(with_gaps_replaced(runs_of(inlines, ())), 0)
+    """The normal form of a list of inline elements; refuses one with too many words for any document."""
+    runs = runs_of(inlines, ())
+    if sum([len(run.item.text) for run in runs if run.gap == ""]) > LONGEST_PLAIN:
+        raise TooLarge()
+    return built(with_gaps_replaced(runs), 0)
 
 
 def runs_of(inlines, wrappers):
@@ -55,7 +60,10 @@ def runs_of_text(text, wrappers):
     The words of one text and the gaps between them have the same wrappers, so they
     stay together, and each of these gaps is one space at once.
     """
-    pieces = words_between_spaces(text)
+    spaced = with_short_gaps(text)
+    if not isinstance(spaced, str):
+        raise TooLarge()
+    pieces = words_between_spaces(spaced)
     words = [piece for piece in pieces if piece != ""]
     space = Run("space", make_string(" "), wrappers)
     if not words:

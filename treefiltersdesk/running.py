@@ -5,9 +5,8 @@ from treefiltersdesk.errors import TooLarge
 from treefiltersdesk.expressions import DEEPEST
 from treefiltersdesk.normal import normal_blocks
 from treefiltersdesk.selecting import holding, places_of
-from treefiltersdesk.texts import length_of
 from treefiltersdesk.trees import with_lists
-from treefiltersdesk.writing import notation_of
+from treefiltersdesk.writing import length_of_notation, notation_of
 
 MOST_STEPS = 200
 LONGEST_NOTATION = 3000
@@ -51,10 +50,10 @@ class Execution:
         role = ROLES[step.head]
         chosen = [place.item.role == role and answer for place, answer in zip(places, held)]
         self.blocks = normal_blocks(Change(chosen, step.parts[2:]).changed_list(self.blocks))
-        self.notation = notation_of(self.blocks)
         deepest = max([block.depth for block in self.blocks], default=0)
-        if length_of(self.notation) > LONGEST_NOTATION or deepest > DEEPEST:
+        if length_of_notation(self.blocks) > LONGEST_NOTATION or deepest > DEEPEST:
             raise TooLarge()
+        self.notation = notation_of(self.blocks)
 
 
 class Change:

@@ -65,10 +65,12 @@ def bytes_of_code_point(code):
 
 def is_label(text):
     """Whether a text is a label."""
+    if not isinstance(text, str) or not 1 <= len(text) <= 40:
+        return False
     for sign in text:
         if sign not in LABEL_SIGNS:
             return False
-    return 1 <= len(text) <= 40
+    return True
 
 
 def words_between_spaces(text):

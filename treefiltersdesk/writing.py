@@ -1,6 +1,7 @@
-"""Writing: from the blocks of a document to its canonical notation."""
+"""Writing: from the blocks of a document to its canonical notation, and how long this is."""
 
-from treefiltersdesk.texts import MARK, sign_of
+from treefiltersdesk.errors import TooLarge
+from treefiltersdesk.texts import MARK, length_of, sign_of
 
 OPENING_BRACE = 123
 CLOSING_BRACE = 125
@@ -21,6 +22,28 @@ def notation_of_expression(expression):
     if expression.shape == "integer":
         return str(expression.number)
     return expression.text
+
+
+def length_of_notation(blocks):
+    """How many bytes the canonical notation of a document has."""
+    return sum([size_of(block) for block in blocks]) + max(len(blocks) - 1, 0)
+
+
+def size_of(expression):
+    """How many bytes the canonical notation of an expression has."""
+    # A template can put one expression into very many places, so it is measured once.
+    if expression.size is None:
+        expression.size = measured_size(expression)
+    return expression.size
+
+
+def measured_size(expression):
+    """How many bytes the canonical notation of an expression has, measured anew; refuses a long text."""
+    if expression.shape == "list":
+        return sum([size_of(part) for part in expression.parts]) + max(len(expression.parts), 1) + 1
+    if not isinstance(expression.text, str):
+        raise TooLarge()
+    return length_of(notation_of_expression(expression))
 
 
 def escaped(text):
