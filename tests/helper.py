@@ -13,15 +13,42 @@ def check(program):
     return filters.check(to_bytes(program))
 
 
-def apply(program, tree):
-    """The notation that apply answers, or its error code."""
-    answer = filters.apply(to_bytes(program), to_bytes(tree))
+def numbers(answer):
+    """The numbers of an answer, or its error code."""
     assert type(answer) is list and all(type(number) is int for number in answer), answer
     if answer[0] < 0:
         assert len(answer) == 1, answer
         return answer[0]
+    return answer
+
+
+def counted(answer):
+    """What an answer has after the count that it begins with, or its error code."""
+    answer = numbers(answer)
+    if isinstance(answer, int):
+        return answer
     assert answer[0] == len(answer) - 1, answer
-    return bytes(answer[1:]).decode("utf-8")
+    return answer[1:]
+
+
+def apply(program, tree):
+    """The notation that apply answers, or its error code."""
+    answer = counted(filters.apply(to_bytes(program), to_bytes(tree)))
+    return answer if isinstance(answer, int) else bytes(answer).decode("utf-8")
+
+
+def trace(program, tree):
+    """The numbers that trace answers, without their count, or its error code."""
+    return counted(filters.trace(to_bytes(program), to_bytes(tree)))
+
+
+def is_stable(program, tree):
+    """The number that is_stable answers, or its error code."""
+    answer = numbers(filters.is_stable(to_bytes(program), to_bytes(tree)))
+    if isinstance(answer, int):
+        return answer
+    assert answer in ([0], [1]), answer
+    return answer[0]
 
 
 def normal(tree):

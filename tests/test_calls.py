@@ -2,7 +2,7 @@
 
 import unittest
 
-from tests.helper import TREES, apply, check, normal, to_bytes
+from tests.helper import TREES, apply, check, is_stable, normal, to_bytes, trace
 from tests.test_requirements import PROGRAMS
 from treefiltersdesk import filters
 
@@ -29,6 +29,8 @@ class HandedIn(unittest.TestCase):
                 other = Untouchable(to_bytes(tree))
                 filters.check(one)
                 filters.apply(one, other)
+                filters.trace(one, other)
+                filters.is_stable(one, other)
                 self.assertEqual(list(one), to_bytes(program))
                 self.assertEqual(list(other), to_bytes(tree))
 
@@ -39,10 +41,19 @@ class HandedIn(unittest.TestCase):
         answer = filters.check([])
         answer.clear()
         self.assertEqual(filters.check([]), [0, 0])
+        program = to_bytes("(blocks (any))")
+        answer = filters.trace(program, [])
+        answer.append(1)
+        self.assertEqual(filters.trace(program, []), [1, 0])
+        answer = filters.is_stable(program, [])
+        answer.clear()
+        self.assertEqual(filters.is_stable(program, []), [1])
 
     def test_the_same_list_twice(self):
         data = to_bytes("; both\n")
         self.assertEqual(filters.apply(data, data), [0])
+        self.assertEqual(filters.trace(data, data), [0])
+        self.assertEqual(filters.is_stable(data, data), [1])
 
 
 class Kept(unittest.TestCase):
@@ -54,6 +65,18 @@ class Kept(unittest.TestCase):
         self.assertEqual(first, list(reversed(again)))
         self.assertEqual(checked, [check(program) for program in PROGRAMS + FAILING])
         self.assertEqual(first[::7], [apply(program, tree) for program, tree in calls[::7]])
+
+    def test_whatever_other_operations_were_called_before(self):
+        calls = [(program, tree) for program in PROGRAMS + FAILING for tree in TREES]
+        applied = [apply(program, tree) for program, tree in calls]
+        traced = [trace(program, tree) for program, tree in calls]
+        stable = [is_stable(program, tree) for program, tree in calls]
+        self.assertEqual({type(answer) for answer in traced}, {int, list})
+        self.assertEqual(set(stable), {0, 1, -21, -28, -33})
+        for number in reversed(range(len(calls))):
+            program, tree = calls[number]
+            answers = (is_stable(program, tree), apply(program, tree), trace(program, tree))
+            self.assertEqual(answers, (stable[number], applied[number], traced[number]), calls[number])
 
 
 class Extremes(unittest.TestCase):
@@ -125,3 +148,22 @@ class Extremes(unittest.TestCase):
         self.assertEqual(apply(program, "(rule)" * 100), "\n".join(["(rule)"] * 99 + ['(para "A")']))
         program = "(repeat 50 (blocks (descendant (descendant (kind rule))) (after (rule))) (blocks (kind rule) (remove)))"
         self.assertEqual(apply(program, '(note "n" ' * 15 + "(rule)" + ")" * 15), '(note "n" ' * 14 + '(note "n")' + ")" * 14)
+
+    def test_traces_and_stability(self):
+        program = "(inlines (any)" + " " * 185 + "(remove)) (repeat 50 (repeat 50 (blocks (kind rule) (remove))))"
+        program = "; " + "x" * (597 - len(program)) + "\n" + program
+        tree = "(rule)" * 99 + "(para)"
+        self.assertEqual((len(program), len(tree)), (600, 600))
+        self.assertEqual(trace(program, tree), [0, 99, 0, 0])
+        self.assertEqual(is_stable(program, tree), 1)
+        self.assertEqual(trace("(blocks(or))" * 50, tree), [0] * 50)
+        self.assertEqual(trace("(blocks(any))" * 46, tree), [99] * 46)
+        self.assertEqual(trace('(inlines (text "' + "a" * 583 + '"))', '(para "' + "a" * 591 + '")'), [1])
+        self.assertEqual(trace("(repeat 1 " * 13 + "(blocks (any))" + ")" * 13, '(note "n" ' * 15 + "(rule)" + ")" * 15), [16])
+        self.assertEqual(is_stable("(blocks (any) (before" + "(rule)" * 95 + "))", "(rule)"), -28)
+        self.assertEqual(is_stable("(blocks (any) (replace" + "(self)" * 94 + "))", "(quote(rule))" * 46), -28)
+        self.assertEqual(is_stable("(repeat 50 (repeat 50 (blocks (kind rule) (remove))))", "(rule)" * 100), 1)
+        self.assertEqual(trace(";" * 600, " " * 600), [])
+        self.assertEqual(is_stable(" " * 600, ";" * 600), 1)
+        self.assertEqual(trace(" " * 600, "(" * 600), -20)
+        self.assertEqual(is_stable("(" * 600, "(" * 600), -21)

@@ -1,8 +1,8 @@
-"""The rows of the document's examples for check and apply."""
+"""The rows of the document's examples for check, apply, trace and is_stable."""
 
 import unittest
 
-from tests.helper import apply, check, to_bytes
+from tests.helper import apply, check, is_stable, to_bytes, trace
 from treefiltersdesk import filters
 
 
@@ -27,8 +27,23 @@ class Examples(unittest.TestCase):
     def test_apply_refuses_a_template(self):
         self.assertEqual(apply("(blocks (any) (replace (item (self))))", "(rule)"), -33)
 
+    def test_trace_counts_rules(self):
+        program = "(repeat 5 (blocks (and (kind rule) (first)) (remove)))"
+        tree = '(rule) (rule) (para "a")'
+        self.assertEqual(trace(program, tree), [1, 1, 0])
+        self.assertEqual(filters.trace(to_bytes(program), to_bytes(tree)), [3, 1, 1, 0])
+
+    def test_is_stable_finds_ever_more_rules(self):
+        program = "(blocks (kind para) (after (rule)))"
+        self.assertEqual(is_stable(program, '(para "a")'), 0)
+        self.assertEqual(filters.is_stable(to_bytes(program), to_bytes('(para "a")')), [0])
+
     def test_answers_as_lists(self):
         self.assertEqual(filters.check(to_bytes("(when (any))(when (any))")), [0, 2])
         self.assertEqual(filters.apply([], to_bytes("( rule )")), [6] + to_bytes("(rule)"))
         self.assertEqual(filters.apply([], []), [0])
         self.assertEqual(filters.apply([40], []), [-21])
+        self.assertEqual(filters.trace([], []), [0])
+        self.assertEqual(filters.trace([40], []), [-21])
+        self.assertEqual(filters.is_stable([], []), [1])
+        self.assertEqual(filters.is_stable([40], []), [-21])

@@ -143,7 +143,8 @@ class Imports(unittest.TestCase):
                 self.assertEqual(defined, [], name)
         plain = {node.name: [part.arg for part in node.args.args] for node in TREES["filters"].body if isinstance(node, ast.FunctionDef)}
         self.assertEqual(plain["check"], ["program"])
-        self.assertEqual(plain["apply"], ["program", "tree"])
+        for name in ["apply", "trace", "is_stable"]:
+            self.assertEqual(plain[name], ["program", "tree"])
 
 
 class Code(unittest.TestCase):

@@ -6,7 +6,7 @@ import resource
 import unittest
 from unittest import mock
 
-from tests.helper import apply, on_block, on_inline
+from tests.helper import apply, is_stable, on_block, on_inline, trace
 from treefiltersdesk import longtexts
 from treefiltersdesk.texts import bytes_of, text_of
 
@@ -212,6 +212,25 @@ class AroundOneAnother(unittest.TestCase):
         self.assertEqual(apply("(blocks (any) " + GROW + ")", notes(2, '(para "a")')), notes(2, '(para "' + "a" * 12 ** 3 + '")'))
         self.assertEqual(apply("(blocks (any) " + GROW + ")", notes(3, '(para "a")')), -28)
         self.assertEqual(apply("(blocks (not (kind note)) " + GROW + ")", notes(14, '(para "a")')), notes(14, '(para "' + "a" * 12 + '")'))
+
+
+class OtherOperations(unittest.TestCase):
+    def test_trace(self):
+        self.assertEqual(trace("(blocks (any) " + WIDEN * 15 + ") (inlines (any) (upper-case))", '(para "a a")'), [1, 1])
+        self.assertEqual(trace("(blocks (any) " + GROW * 15 + "(remove)) (blocks (any))", '(para "a")'), [1, 0])
+        self.assertEqual(trace("(blocks (any)) (blocks (any) " + GROW * 15 + ")", '(para "a")'), -28)
+
+    def test_is_stable(self):
+        self.assertEqual(is_stable("(blocks (any) " + WIDEN * 15 + ")", '(para "a a")'), 1)
+        self.assertEqual(is_stable("(blocks (any) " + GROW * 7 + SHRINK * 7 + replacing("b", "c") + ")", '(para "ab")'), 1)
+        self.assertEqual(is_stable("(blocks (any) " + GROW * 7 + SHRINK * 7 + replacing("b", "bb") + ")", '(para "ab")'), 0)
+        self.assertEqual(is_stable("(blocks (any) " + GROW * 15 + ")", '(para "a")'), -28)
+        self.assertEqual(is_stable("(blocks (any) " + GROW * 13 + ") (blocks (kind rule) (replace (para \"a\")))", "(rule)"), -28)
+
+    def test_in_repeat(self):
+        self.assertEqual(trace("(repeat 50 (blocks (any) " + WIDEN * 15 + "))", '(para "a a")'), [1])
+        program = "(repeat 3 (inlines (any) " + GROW * 7 + SHRINK * 6 + "))"
+        self.assertEqual(apply(program, '(para "a")'), '(para "' + "a" * 12 ** 3 + '")')
 
 
 def written(text):

@@ -3,7 +3,7 @@
 from treefiltersdesk.errors import BadTemplate, Fault, NotDocument, TooLarge
 from treefiltersdesk.programs import read_program
 from treefiltersdesk.reading import read_document
-from treefiltersdesk.running import Execution
+from treefiltersdesk.running import executed
 from treefiltersdesk.texts import bytes_of
 
 
@@ -18,11 +18,25 @@ def check(program):
 
 def apply(program, tree):
     """The length and the bytes of the canonical notation of a document after a program."""
+    return answered(program, tree, notation_after)
+
+
+def trace(program, tree):
+    """The count of the executed steps `blocks` and `inlines`, and for how many items each one's selector held."""
+    return answered(program, tree, selected_counts)
+
+
+def is_stable(program, tree):
+    """1 if a program, applied to its own result, doesn't change it any more, otherwise 0."""
+    return answered(program, tree, stability)
+
+
+def answered(program, tree, operation):
+    """What an operation answers of the steps of a program and the blocks of a document, or an error code."""
     try:
         steps = read_program(program)
         blocks = read_document(tree)
-        execution = Execution(blocks)
-        execution.execute_steps(steps)
+        return operation(steps, blocks)
     except Fault:
         return [-21]
     except NotDocument:
@@ -31,5 +45,22 @@ def apply(program, tree):
         return [-28]
     except BadTemplate:
         return [-33]
-    notation = bytes_of(execution.notation)
+
+
+def notation_after(steps, blocks):
+    """The answer of apply for a program that doesn't fail."""
+    notation = bytes_of(executed(steps, blocks).notation)
     return [len(notation)] + notation
+
+
+def selected_counts(steps, blocks):
+    """The answer of trace for a program that doesn't fail."""
+    counts = executed(steps, blocks).selected
+    return [len(counts)] + counts
+
+
+def stability(steps, blocks):
+    """The answer of is_stable for a program that fails neither on the document nor on its result."""
+    first = executed(steps, blocks)
+    second = executed(steps, first.blocks)
+    return [1] if second.notation == first.notation else [0]

@@ -13,13 +13,23 @@ LONGEST_NOTATION = 3000
 ROLES = {"blocks": "block", "inlines": "inline"}
 
 
+def executed(steps, blocks):
+    """The execution of a program on a document, at its end."""
+    execution = Execution(blocks)
+    execution.execute_steps(steps)
+    return execution
+
+
 class Execution:
-    """A document on its way through a program, always in normal form."""
+    """A document on its way through a program, always in normal form.
+
+    For each step `blocks` and `inlines` it keeps for how many items the selector held.
+    """
 
     def __init__(self, blocks):
         self.blocks = normal_blocks(blocks)
         self.notation = notation_of(self.blocks)
-        self.executed = 0
+        self.selected = []
 
     def execute_steps(self, steps):
         """Executes steps one after another."""
@@ -42,13 +52,13 @@ class Execution:
 
     def execute_change(self, step):
         """Executes a step `blocks` or `inlines`."""
-        if self.executed == MOST_STEPS:
+        if len(self.selected) == MOST_STEPS:
             raise TooLarge()
-        self.executed += 1
         places = places_of(self.blocks)
         held = holding(step.parts[1], places)
         role = ROLES[step.head]
         chosen = [place.item.role == role and answer for place, answer in zip(places, held)]
+        self.selected.append(chosen.count(True))
         self.blocks = normal_blocks(Change(chosen, step.parts[2:]).changed_list(self.blocks))
         deepest = max([block.depth for block in self.blocks], default=0)
         if length_of_notation(self.blocks) > LONGEST_NOTATION or deepest > DEEPEST:
