@@ -1,5 +1,8 @@
 """What the tests share: texts instead of lists of bytes, and shorthands for programs."""
 
+import re
+import unittest
+
 from treefiltersdesk import filters
 
 
@@ -49,6 +52,93 @@ def is_stable(program, tree):
         return answer
     assert answer in ([0], [1]), answer
     return answer[0]
+
+
+def select(selector, tree):
+    """The paths that select answers, or its error code."""
+    answer = numbers(filters.select(to_bytes(selector), to_bytes(tree)))
+    if isinstance(answer, int):
+        return answer
+    assert min(answer) >= 0, answer
+    paths = []
+    at = 1
+    while at < len(answer):
+        paths.append(tuple(answer[at + 1:at + 1 + answer[at]]))
+        assert len(paths[-1]) == answer[at] and answer[at] % 2 == 1, answer
+        at += 1 + answer[at]
+    assert answer[0] == len(paths), answer
+    return paths
+
+
+def count(selector, tree):
+    """The numbers of blocks and of inline elements that count answers, or its error code."""
+    answer = numbers(filters.count(to_bytes(selector), to_bytes(tree)))
+    if isinstance(answer, int):
+        return answer
+    assert len(answer) == 2 and min(answer) >= 0, answer
+    return tuple(answer)
+
+
+def quoted(text):
+    """The notation of a text."""
+    text = text.replace("\\", "\\\\").replace('"', '\\"').replace("\n", "\\n").replace("\t", "\\t")
+    return '"' + "".join("\\u{%x}" % ord(sign) if ord(sign) < 32 else sign for sign in text) + '"'
+
+
+PIECES = re.compile(r'"(?:[^"\\]|\\.)*"|[()*]|[a-z0-9-]+')
+
+
+def parsed(notation):
+    """The expressions of a notation in which stars mark some: pairs of its mark and its characters or its parts."""
+    levels = [[]]
+    marks = [False]
+    for piece in PIECES.findall(notation):
+        if piece == "*":
+            marks[-1] = True
+        elif piece == "(":
+            levels.append([])
+            marks.append(False)
+        elif piece == ")":
+            parts = levels.pop()
+            marks.pop()
+            levels[-1].append((marks[-1], parts))
+            marks[-1] = False
+        else:
+            levels[-1].append((marks[-1], piece))
+            marks[-1] = False
+    return levels[0]
+
+
+def block_lists(parts):
+    """The lists of blocks of a block, of its parts."""
+    head = parts[0][1]
+    if head in ("quote", "group", "note"):
+        return [parts[1 if head == "quote" else 2:]]
+    if head in ("bullets", "numbers"):
+        return [item[1:] for mark, item in parts[1 if head == "bullets" else 2:]]
+    return [entry[2:] for mark, entry in parts[1:]] if head == "terms" else []
+
+
+def blocks_with_paths(siblings, path=()):
+    """The blocks of a list and those in them, in the order of the notation: their paths, marks and parts."""
+    result = []
+    for index, (mark, parts) in enumerate(siblings):
+        result.append((path + (index,), mark, parts))
+        for number, inner in enumerate(block_lists(parts)):
+            result.extend(blocks_with_paths(inner, path + (index, number)))
+    return result
+
+
+class Finding(unittest.TestCase):
+    """Tests of selectors on documents as they are, in which stars mark what is to be found."""
+
+    def assert_found(self, selector, starred):
+        """The selector holds for just the blocks and inline elements that have a star in front of them."""
+        pieces = PIECES.findall(starred)
+        tree = PIECES.sub(lambda match: "" if match[0] == "*" else match[0], starred)
+        paths = [path for path, mark, parts in blocks_with_paths(parsed(starred)) if mark]
+        self.assertEqual(select(selector, tree), paths, (selector, starred))
+        self.assertEqual(count(selector, tree), (len(paths), pieces.count("*") - len(paths)), (selector, starred))
 
 
 def normal(tree):

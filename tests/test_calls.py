@@ -2,7 +2,7 @@
 
 import unittest
 
-from tests.helper import TREES, apply, check, is_stable, normal, to_bytes, trace
+from tests.helper import TREES, apply, check, count, is_stable, normal, select, to_bytes, trace
 from tests.test_requirements import PROGRAMS
 from treefiltersdesk import filters
 
@@ -19,6 +19,8 @@ class Untouchable(list):
 
 FAILING = ["(", "(x)", "(blocks (any) (replace (x)))", "(blocks (any) (replace (self) (quote (x))))", "(repeat 0)",
            "(repeat 50 (repeat 50 (inlines (any) (after \"a\"))))"]
+SELECTORS = ["(any)", "(kind rule)", '(text "a")', "(or (empty) (label \"x\"))", "(descendant (kind text))", "(not (previous (any)))", "(or)"]
+NO_SELECTORS = ["", "(", "(x)", "(any) (any)", "(level 0 1)", "(text \"\\q\")"]
 
 
 class HandedIn(unittest.TestCase):
@@ -32,6 +34,16 @@ class HandedIn(unittest.TestCase):
                 filters.trace(one, other)
                 filters.is_stable(one, other)
                 self.assertEqual(list(one), to_bytes(program))
+                self.assertEqual(list(other), to_bytes(tree))
+
+    def test_selectors_are_as_they_were(self):
+        for selector in SELECTORS + NO_SELECTORS:
+            for tree in TREES + ["(", "(x)", "(para) (para)"]:
+                one = Untouchable(to_bytes(selector))
+                other = Untouchable(to_bytes(tree))
+                filters.select(one, other)
+                filters.count(one, other)
+                self.assertEqual(list(one), to_bytes(selector))
                 self.assertEqual(list(other), to_bytes(tree))
 
     def test_answers_are_lists_of_their_own(self):
@@ -48,12 +60,20 @@ class HandedIn(unittest.TestCase):
         answer = filters.is_stable(program, [])
         answer.clear()
         self.assertEqual(filters.is_stable(program, []), [1])
+        selector = to_bytes("(any)")
+        for operation, expected in [(filters.select, [1, 1, 0]), (filters.count, [1, 0])]:
+            answer = operation(selector, to_bytes("(rule)"))
+            answer.append(1)
+            self.assertEqual(operation(selector, to_bytes("(rule)")), expected)
 
     def test_the_same_list_twice(self):
         data = to_bytes("; both\n")
         self.assertEqual(filters.apply(data, data), [0])
         self.assertEqual(filters.trace(data, data), [0])
         self.assertEqual(filters.is_stable(data, data), [1])
+        self.assertEqual(filters.select(data, data), [-21])
+        data = to_bytes("(any)")
+        self.assertEqual(filters.count(data, data), [-20])
 
 
 class Kept(unittest.TestCase):
@@ -77,6 +97,15 @@ class Kept(unittest.TestCase):
             program, tree = calls[number]
             answers = (is_stable(program, tree), apply(program, tree), trace(program, tree))
             self.assertEqual(answers, (stable[number], applied[number], traced[number]), calls[number])
+
+    def test_selectors_whatever_was_called_before(self):
+        calls = [(selector, tree) for selector in SELECTORS + NO_SELECTORS for tree in TREES + ["(x)"]]
+        selected = [select(selector, tree) for selector, tree in calls]
+        counted = [count(selector, tree) for selector, tree in calls]
+        for number in reversed(range(len(calls))):
+            selector, tree = calls[number]
+            apply("(blocks " + selector + " (remove))", tree)
+            self.assertEqual((count(selector, tree), select(selector, tree)), (counted[number], selected[number]), calls[number])
 
 
 class Extremes(unittest.TestCase):

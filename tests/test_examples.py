@@ -1,8 +1,8 @@
-"""The rows of the document's examples for check, apply, trace and is_stable."""
+"""The rows of the document's examples."""
 
 import unittest
 
-from tests.helper import apply, check, is_stable, to_bytes, trace
+from tests.helper import apply, check, count, is_stable, select, to_bytes, trace
 from treefiltersdesk import filters
 
 
@@ -38,6 +38,18 @@ class Examples(unittest.TestCase):
         self.assertEqual(is_stable(program, '(para "a")'), 0)
         self.assertEqual(filters.is_stable(to_bytes(program), to_bytes('(para "a")')), [0])
 
+    def test_select_finds_what_stands_after_a_rule(self):
+        selector = "(previous (kind rule))"
+        tree = '(rule) (quote (rule) (para "a"))'
+        self.assertEqual(select(selector, tree), [(1,), (1, 0, 1)])
+        self.assertEqual(filters.select(to_bytes(selector), to_bytes(tree)), [2, 1, 1, 3, 1, 0, 1])
+
+    def test_count_finds_what_stands_in_a_paragraph(self):
+        selector = "(ancestor (kind para))"
+        tree = '(para "a" (emph "b"))'
+        self.assertEqual(count(selector, tree), (0, 3))
+        self.assertEqual(filters.count(to_bytes(selector), to_bytes(tree)), [0, 3])
+
     def test_answers_as_lists(self):
         self.assertEqual(filters.check(to_bytes("(when (any))(when (any))")), [0, 2])
         self.assertEqual(filters.apply([], to_bytes("( rule )")), [6] + to_bytes("(rule)"))
@@ -47,3 +59,7 @@ class Examples(unittest.TestCase):
         self.assertEqual(filters.trace([40], []), [-21])
         self.assertEqual(filters.is_stable([], []), [1])
         self.assertEqual(filters.is_stable([40], []), [-21])
+        self.assertEqual(filters.select(to_bytes("(any)"), to_bytes("(rule)")), [1, 1, 0])
+        self.assertEqual(filters.select([40], []), [-21])
+        self.assertEqual(filters.count(to_bytes("(any)"), to_bytes("(rule)")), [1, 0])
+        self.assertEqual(filters.count([40], []), [-21])

@@ -145,6 +145,8 @@ class Imports(unittest.TestCase):
         self.assertEqual(plain["check"], ["program"])
         for name in ["apply", "trace", "is_stable"]:
             self.assertEqual(plain[name], ["program", "tree"])
+        for name in ["select", "count"]:
+            self.assertEqual(plain[name], ["selector", "tree"])
 
 
 class Code(unittest.TestCase):

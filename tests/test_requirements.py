@@ -1,8 +1,8 @@
-"""The requirements 1 to 5, each on programs and trees of several kinds."""
+"""The requirements 1 to 6, each on programs and trees of several kinds."""
 
 import unittest
 
-from tests.helper import BLOCK_KINDS, INLINE_KINDS, TREES, apply, normal, to_bytes
+from tests.helper import BLOCK_KINDS, INLINE_KINDS, TREES, apply, blocks_with_paths, count, normal, parsed, select, to_bytes
 
 PROGRAMS = [
     "(blocks (any))",
@@ -82,3 +82,29 @@ class Requirements(unittest.TestCase):
             # Each application has its own 200 steps.
             self.assertIsInstance(apply("(repeat 50 (repeat 4 " + grow + "))", tree), str)
             self.assertEqual(apply("(repeat 50 (repeat 50 (repeat 50 " + grow + ")))", tree), -28)
+
+    def test_paths(self):
+        for tree in TREES:
+            parts_at = {path: parts for path, mark, parts in blocks_with_paths(parsed(tree))}
+            for kind in BLOCK_KINDS:
+                paths = select("(kind " + kind + ")", tree)
+                self.assertEqual(len(paths), count("(kind " + kind + ")", tree)[0])
+                self.assertEqual(paths, [path for path in parts_at if parts_at[path][0][1] == kind])
+            self.assertEqual(select("(any)", tree), list(parts_at))
+
+    def test_paths_of_more_selectors(self):
+        for tree in TREES:
+            every = select("(any)", tree)
+            for selector in EMPTY_SELECTORS:
+                self.assertEqual((select(selector, tree), count(selector, tree)), ([], (0, 0)))
+            for index in range(3):
+                self.assertEqual(select("(index %d)" % index, tree), [path for path in every if path[-1] == index])
+            self.assertEqual(select("(parent (any))", tree), [path for path in every if len(path) > 1])
+            self.assertEqual(select("(ancestor (parent (any)))", tree), [path for path in every if len(path) > 3])
+            self.assertEqual(select("(previous (any))", tree), [path for path in every if path[-1] > 0])
+            self.assertEqual(select("(next (any))", tree), [path for path in every if path[:-1] + (path[-1] + 1,) in every])
+            for selector in ["(empty)", '(text "a")', "(descendant (kind emph))", "(last)", '(label "x")', '(class "c")']:
+                paths = select(selector, tree)
+                others = select("(not " + selector + ")", tree)
+                self.assertEqual(sorted(paths + others), sorted(every))
+                self.assertEqual((len(paths), len(others)), (count(selector, tree)[0], count("(not " + selector + ")", tree)[0]))

@@ -2,11 +2,15 @@
 
 
 class Fault(Exception):
-    """A text that is no program: the kind of its first error and the bytes before it."""
+    """A text that is no program or no selector: the kind of its first error and the bytes before it."""
 
     def __init__(self, kind, position):
         self.kind = kind
         self.position = position
+
+
+class NotSelector(Exception):
+    """A text without expressions, or with several of them, where one selector is needed."""
 
 
 class NotDocument(Exception):

@@ -1,9 +1,10 @@
 """The interface: programs and documents as lists of bytes, answers as lists of whole numbers."""
 
-from treefiltersdesk.errors import BadTemplate, Fault, NotDocument, TooLarge
-from treefiltersdesk.programs import read_program
+from treefiltersdesk.errors import BadTemplate, Fault, NotDocument, NotSelector, TooLarge
+from treefiltersdesk.programs import read_program, read_selector
 from treefiltersdesk.reading import read_document
 from treefiltersdesk.running import executed
+from treefiltersdesk.selecting import path_of, places_of, selected_places
 from treefiltersdesk.texts import bytes_of
 
 
@@ -18,26 +19,38 @@ def check(program):
 
 def apply(program, tree):
     """The length and the bytes of the canonical notation of a document after a program."""
-    return answered(program, tree, notation_after)
+    return answered(read_program, program, tree, notation_after)
 
 
 def trace(program, tree):
     """The count of the executed steps `blocks` and `inlines`, and for how many items each one's selector held."""
-    return answered(program, tree, selected_counts)
+    return answered(read_program, program, tree, selected_counts)
 
 
 def is_stable(program, tree):
     """1 if a program, applied to its own result, doesn't change it any more, otherwise 0."""
-    return answered(program, tree, stability)
+    return answered(read_program, program, tree, stability)
 
 
-def answered(program, tree, operation):
-    """What an operation answers of the steps of a program and the blocks of a document, or an error code."""
+def select(selector, tree):
+    """The count of the blocks for which a selector holds, and for each of them the length of its path and the path."""
+    return answered(read_selector, selector, tree, selected_paths)
+
+
+def count(selector, tree):
+    """The counts of the blocks and of the inline elements for which a selector holds."""
+    return answered(read_selector, selector, tree, counts_by_role)
+
+
+def answered(read, text, tree, operation):
+    """What an operation answers of what is read of a text and of the blocks of a document, or an error code."""
     try:
-        steps = read_program(program)
+        first = read(text)
         blocks = read_document(tree)
-        return operation(steps, blocks)
+        return operation(first, blocks)
     except Fault:
+        return [-21]
+    except NotSelector:
         return [-21]
     except NotDocument:
         return [-20]
@@ -64,3 +77,20 @@ def stability(steps, blocks):
     first = executed(steps, blocks)
     second = executed(steps, first.blocks)
     return [1] if second.notation == first.notation else [0]
+
+
+def selected_paths(selector, blocks):
+    """The answer of select."""
+    places = places_of(blocks)
+    paths = [path_of(place, places) for place in selected_places(selector, places) if place.item.role == "block"]
+    answer = [len(paths)]
+    for path in paths:
+        answer.append(len(path))
+        answer.extend(path)
+    return answer
+
+
+def counts_by_role(selector, blocks):
+    """The answer of count."""
+    roles = [place.item.role for place in selected_places(selector, places_of(blocks))]
+    return [roles.count("block"), roles.count("inline")]

@@ -1,6 +1,6 @@
-"""Programs: reading their steps and checking them."""
+"""Programs and selectors: reading and checking them."""
 
-from treefiltersdesk.errors import Fault
+from treefiltersdesk.errors import Fault, NotSelector
 from treefiltersdesk.expressions import has_form
 from treefiltersdesk.reading import read_expressions
 
@@ -59,6 +59,15 @@ def read_program(data):
     steps = read_expressions(data)
     check_steps(steps)
     return steps
+
+
+def read_selector(data):
+    """The one selector of a text; its first error is raised."""
+    expressions = read_expressions(data)
+    if len(expressions) != 1:
+        raise NotSelector()
+    check_selector(expressions[0])
+    return expressions[0]
 
 
 def check_steps(steps):

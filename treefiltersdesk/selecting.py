@@ -5,11 +5,15 @@ from treefiltersdesk.trees import LABEL_PARTS, TARGET_PARTS, lists_of, plain_tex
 
 
 class Place:
-    """Where an item stands in a document; the other places are told by their numbers, -1 for none."""
+    """Where an item stands in a document; the other places are told by their numbers, -1 for none.
 
-    def __init__(self, item, parent, index):
+    The list number tells in which of the lists of its parent it stands, and the index where in this list.
+    """
+
+    def __init__(self, item, parent, list_number, index):
         self.item = item
         self.parent = parent
+        self.list_number = list_number
         self.index = index
         self.previous = -1
         self.following = -1
@@ -25,23 +29,46 @@ class Place:
 def places_of(blocks):
     """The places of all items of a document, in the order of the notation."""
     places = []
-    add_places(blocks, -1, places)
+    add_places(blocks, -1, 0, places)
     return places
 
 
-def add_places(siblings, parent, places):
+def add_places(siblings, parent, list_number, places):
     """Adds the places of the items of a list and of all items in them."""
     previous = -1
     for index, item in enumerate(siblings):
         number = len(places)
-        place = Place(item, parent, index)
+        place = Place(item, parent, list_number, index)
         places.append(place)
         if previous >= 0:
             place.previous = previous
             places[previous].following = number
         previous = number
-        for inner in lists_of(item):
-            add_places(inner, number, places)
+        for inner_number, inner in enumerate(lists_of(item)):
+            add_places(inner, number, inner_number, places)
+
+
+def path_of(place, places):
+    """The path of a block: the index of a block, then alternately a number of a list of blocks and an index."""
+    path = [place.index]
+    inner = place
+    while inner.parent >= 0:
+        outer = places[inner.parent]
+        path = [outer.index, number_of_block_list(outer.item, inner.list_number)] + path
+        inner = outer
+    return path
+
+
+def number_of_block_list(block, list_number):
+    """The number that one of the lists of a block has among its lists of blocks."""
+    # In a term list a term, which is no list of blocks, stands ahead of the blocks of each entry.
+    return list_number // 2 if block.head == "terms" else list_number
+
+
+def selected_places(selector, places):
+    """The places, in their order, for whose items the selector holds."""
+    held = holding(selector, places)
+    return [place for place, answer in zip(places, held) if answer]
 
 
 def holding(selector, places):
