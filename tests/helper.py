@@ -79,10 +79,24 @@ def count(selector, tree):
     return tuple(answer)
 
 
+def extract(selector, tree):
+    """The notation that extract answers, or its error code."""
+    answer = counted(filters.extract(to_bytes(selector), to_bytes(tree)))
+    return answer if isinstance(answer, int) else bytes(answer).decode("utf-8")
+
+
 def quoted(text):
-    """The notation of a text."""
+    """The canonical notation of a text."""
     text = text.replace("\\", "\\\\").replace('"', '\\"').replace("\n", "\\n").replace("\t", "\\t")
     return '"' + "".join("\\u{%x}" % ord(sign) if ord(sign) < 32 else sign for sign in text) + '"'
+
+
+ESCAPES = {"\\n": "\n", "\\t": "\t", '\\"': '"', "\\\\": "\\"}
+
+
+def unquoted(string):
+    """The text of a string."""
+    return re.sub(r"\\u\{([0-9a-f]+)\}|\\.", lambda match: chr(int(match[1], 16)) if match[1] else ESCAPES[match[0]], string[1:-1])
 
 
 PIECES = re.compile(r'"(?:[^"\\]|\\.)*"|[()*]|[a-z0-9-]+')
@@ -107,6 +121,13 @@ def parsed(notation):
             levels[-1].append((marks[-1], piece))
             marks[-1] = False
     return levels[0]
+
+
+def written(parts):
+    """The canonical notation of an expression, of its characters or its parts."""
+    if isinstance(parts, list):
+        return "(" + " ".join(written(part) for mark, part in parts) + ")"
+    return quoted(unquoted(parts)) if parts.startswith('"') else parts
 
 
 def block_lists(parts):
@@ -136,8 +157,10 @@ class Finding(unittest.TestCase):
         """The selector holds for just the blocks and inline elements that have a star in front of them."""
         pieces = PIECES.findall(starred)
         tree = PIECES.sub(lambda match: "" if match[0] == "*" else match[0], starred)
-        paths = [path for path, mark, parts in blocks_with_paths(parsed(starred)) if mark]
+        blocks = [(path, parts) for path, mark, parts in blocks_with_paths(parsed(starred)) if mark]
+        paths = [path for path, parts in blocks]
         self.assertEqual(select(selector, tree), paths, (selector, starred))
+        self.assertEqual(extract(selector, tree), "\n".join(written(parts) for path, parts in blocks), (selector, starred))
         self.assertEqual(count(selector, tree), (len(paths), pieces.count("*") - len(paths)), (selector, starred))
 
 

@@ -1,21 +1,13 @@
-"""select and count, compared with what the document's definitions say of each single item, word by word.
+"""select, count and extract, compared with what the document's definitions say of each single item, word by word.
 
 Here nothing is computed for several items at once, and nothing comes from the package: an item
 knows its parent and its siblings, and a selector is asked of one item at a time.
 """
 
 import random
-import re
 import unittest
 
-from tests.helper import BLOCK_KINDS, INLINE_KINDS, TREES, count, parsed, select
-
-ESCAPES = {"\\n": "\n", "\\t": "\t", '\\"': '"', "\\\\": "\\"}
-
-
-def unquoted(notation):
-    """The text of a string."""
-    return re.sub(r"\\u\{([0-9a-f]+)\}|\\.", lambda match: chr(int(match[1], 16)) if match[1] else ESCAPES[match[0]], notation[1:-1])
+from tests.helper import BLOCK_KINDS, INLINE_KINDS, TREES, count, extract, parsed, select, unquoted, written
 
 
 class Item:
@@ -26,6 +18,7 @@ class Item:
         self.parent = parent
         self.index = index
         self.path = path
+        self.notation = written(notation)
         self.siblings = []
         self.parts = [part for mark, part in notation] if isinstance(notation, list) else [notation]
         self.kind = "text" if isinstance(notation, str) else self.parts[0]
@@ -235,6 +228,8 @@ class Definitions(unittest.TestCase):
         paths = [item.path for item in items if item.is_block]
         self.assertEqual(select(selector, tree), paths, (selector, tree))
         self.assertEqual(count(selector, tree), (len(paths), len(items) - len(paths)), (selector, tree))
+        notations = [item.notation for item in items if item.is_block]
+        self.assertEqual(extract(selector, tree), "\n".join(notations), (selector, tree))
         return len(items)
 
     def test_many_selectors_on_many_documents(self):

@@ -2,7 +2,7 @@
 
 import unittest
 
-from tests.helper import TREES, apply, check, count, is_stable, normal, select, to_bytes, trace
+from tests.helper import TREES, apply, check, count, extract, is_stable, normal, select, to_bytes, trace
 from tests.test_requirements import PROGRAMS
 from treefiltersdesk import filters
 
@@ -43,6 +43,7 @@ class HandedIn(unittest.TestCase):
                 other = Untouchable(to_bytes(tree))
                 filters.select(one, other)
                 filters.count(one, other)
+                filters.extract(one, other)
                 self.assertEqual(list(one), to_bytes(selector))
                 self.assertEqual(list(other), to_bytes(tree))
 
@@ -61,7 +62,7 @@ class HandedIn(unittest.TestCase):
         answer.clear()
         self.assertEqual(filters.is_stable(program, []), [1])
         selector = to_bytes("(any)")
-        for operation, expected in [(filters.select, [1, 1, 0]), (filters.count, [1, 0])]:
+        for operation, expected in [(filters.select, [1, 1, 0]), (filters.count, [1, 0]), (filters.extract, [6] + to_bytes("(rule)"))]:
             answer = operation(selector, to_bytes("(rule)"))
             answer.append(1)
             self.assertEqual(operation(selector, to_bytes("(rule)")), expected)
@@ -74,6 +75,7 @@ class HandedIn(unittest.TestCase):
         self.assertEqual(filters.select(data, data), [-21])
         data = to_bytes("(any)")
         self.assertEqual(filters.count(data, data), [-20])
+        self.assertEqual(filters.extract(data, data), [-20])
 
 
 class Kept(unittest.TestCase):
@@ -102,10 +104,12 @@ class Kept(unittest.TestCase):
         calls = [(selector, tree) for selector in SELECTORS + NO_SELECTORS for tree in TREES + ["(x)"]]
         selected = [select(selector, tree) for selector, tree in calls]
         counted = [count(selector, tree) for selector, tree in calls]
+        extracted = [extract(selector, tree) for selector, tree in calls]
         for number in reversed(range(len(calls))):
             selector, tree = calls[number]
             apply("(blocks " + selector + " (remove))", tree)
-            self.assertEqual((count(selector, tree), select(selector, tree)), (counted[number], selected[number]), calls[number])
+            answers = (extract(selector, tree), count(selector, tree), select(selector, tree))
+            self.assertEqual(answers, (extracted[number], counted[number], selected[number]), calls[number])
 
 
 class Extremes(unittest.TestCase):

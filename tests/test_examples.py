@@ -63,3 +63,5 @@ class Examples(unittest.TestCase):
         self.assertEqual(filters.select([40], []), [-21])
         self.assertEqual(filters.count(to_bytes("(any)"), to_bytes("(rule)")), [1, 0])
         self.assertEqual(filters.count([40], []), [-21])
+        self.assertEqual(filters.extract(to_bytes("(any)"), to_bytes("(rule)")), [6] + to_bytes("(rule)"))
+        self.assertEqual(filters.extract([40], []), [-21])

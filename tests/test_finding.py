@@ -1,4 +1,4 @@
-"""select and count: every row of the table of selectors, on documents as they are."""
+"""select, count and extract: every row of the table of selectors, on documents as they are."""
 
 from tests.helper import BLOCK_KINDS, INLINE_KINDS, Finding
 

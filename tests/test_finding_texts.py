@@ -1,4 +1,4 @@
-"""select and count: the plain text of each kind of block and inline element, by `text` and `empty`."""
+"""select, count and extract: the plain text of each kind of block and inline element, by `text` and `empty`."""
 
 from tests.helper import Finding, count, quoted, select
 

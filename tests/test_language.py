@@ -145,7 +145,7 @@ class Imports(unittest.TestCase):
         self.assertEqual(plain["check"], ["program"])
         for name in ["apply", "trace", "is_stable"]:
             self.assertEqual(plain[name], ["program", "tree"])
-        for name in ["select", "count"]:
+        for name in ["select", "count", "extract"]:
             self.assertEqual(plain[name], ["selector", "tree"])
 
 

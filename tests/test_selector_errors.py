@@ -1,11 +1,11 @@
-"""select and count: what is no selector, and what is no document."""
+"""select, count and extract: what is no selector, and what is no document."""
 
 import unittest
 
-from tests.helper import TREES, count, select, to_bytes
+from tests.helper import count, extract, select, to_bytes
 from treefiltersdesk import filters
 
-OPERATIONS = [select, count]
+OPERATIONS = [select, count, extract]
 LEVELS = "(heading 1 \"\") (rule)"
 
 
@@ -119,7 +119,7 @@ class NoDocument(Refusals):
                             ["(", "(x)", "1", "(heading 0)", b"\xff", "(x) (y)"])
 
     def test_an_error_result_is_the_code_alone(self):
-        for operation in [filters.select, filters.count]:
+        for operation in [filters.select, filters.count, filters.extract]:
             self.assertEqual(operation([], []), [-21])
             self.assertEqual(operation([40], [40]), [-21])
             self.assertEqual(operation(to_bytes("(any)"), [40]), [-20])

@@ -6,6 +6,7 @@ from treefiltersdesk.reading import read_document
 from treefiltersdesk.running import executed
 from treefiltersdesk.selecting import path_of, places_of, selected_places
 from treefiltersdesk.texts import bytes_of
+from treefiltersdesk.writing import notation_of
 
 
 def check(program):
@@ -39,7 +40,12 @@ def select(selector, tree):
 
 def count(selector, tree):
     """The counts of the blocks and of the inline elements for which a selector holds."""
-    return answered(read_selector, selector, tree, counts_by_role)
+    return answered(read_selector, selector, tree, selected_numbers)
+
+
+def extract(selector, tree):
+    """The length and the bytes of the canonical notation of all blocks for which a selector holds."""
+    return answered(read_selector, selector, tree, selected_notation)
 
 
 def answered(read, text, tree, operation):
@@ -62,8 +68,7 @@ def answered(read, text, tree, operation):
 
 def notation_after(steps, blocks):
     """The answer of apply for a program that doesn't fail."""
-    notation = bytes_of(executed(steps, blocks).notation)
-    return [len(notation)] + notation
+    return as_returned(executed(steps, blocks).notation)
 
 
 def selected_counts(steps, blocks):
@@ -82,15 +87,28 @@ def stability(steps, blocks):
 def selected_paths(selector, blocks):
     """The answer of select."""
     places = places_of(blocks)
-    paths = [path_of(place, places) for place in selected_places(selector, places) if place.item.role == "block"]
-    answer = [len(paths)]
-    for path in paths:
+    selected = selected_places(selector, places, "block")
+    answer = [len(selected)]
+    for place in selected:
+        path = path_of(place, places)
         answer.append(len(path))
         answer.extend(path)
     return answer
 
 
-def counts_by_role(selector, blocks):
+def selected_numbers(selector, blocks):
     """The answer of count."""
-    roles = [place.item.role for place in selected_places(selector, places_of(blocks))]
-    return [roles.count("block"), roles.count("inline")]
+    places = places_of(blocks)
+    return [len(selected_places(selector, places, role)) for role in ("block", "inline")]
+
+
+def selected_notation(selector, blocks):
+    """The answer of extract."""
+    selected = selected_places(selector, places_of(blocks), "block")
+    return as_returned(notation_of([place.item for place in selected]))
+
+
+def as_returned(notation):
+    """A notation as it is returned: its number of bytes, followed by the bytes."""
+    data = bytes_of(notation)
+    return [len(data)] + data

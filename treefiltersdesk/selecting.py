@@ -65,10 +65,10 @@ def number_of_block_list(block, list_number):
     return list_number // 2 if block.head == "terms" else list_number
 
 
-def selected_places(selector, places):
-    """The places, in their order, for whose items the selector holds."""
+def selected_places(selector, places, role):
+    """The places, in their order, of the blocks or of the inline elements for which the selector holds."""
     held = holding(selector, places)
-    return [place for place, answer in zip(places, held) if answer]
+    return [place for place, answer in zip(places, held) if answer and place.item.role == role]
 
 
 def holding(selector, places):
